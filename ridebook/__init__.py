@@ -1,0 +1,1 @@
+"""Ridebook: rides, changes, and the earliest coming."""
