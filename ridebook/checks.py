@@ -1,4 +1,4 @@
-"""What every function that takes pauses and rides refuses ahead of its answer."""
+"""What rides and stops must be, and what is refused ahead of every answer."""
 
 from ridebook.errors import NoRide, NoStop
 
@@ -7,23 +7,24 @@ def is_stop(pauses, stop):
     return 0 <= stop < len(pauses)
 
 
-def check_call(pauses, stop, come, leave):
-    if not is_stop(pauses, stop):
-        raise NoRide("a call is at no stop")
-    if leave < come:
-        raise NoRide("a coach leaves a call earlier than it comes there")
+def keeps_time(ride):
+    # Times may be of any sign, so no number can stand for "no call ahead".
+    left = None
+    for stop, come, leave in ride:
+        if leave < come or (left is not None and come <= left):
+            return False
+        left = leave
+    return True
 
 
 def check_ride(pauses, ride):
     if len(ride) == 0:
         raise NoRide("a ride has no call")
-    # Times may be of any sign, so no number can stand for "no call ahead".
-    left = None
+    if not keeps_time(ride):
+        raise NoRide("a ride's times don't follow one another")
     for stop, come, leave in ride:
-        check_call(pauses, stop, come, leave)
-        if left is not None and come <= left:
-            raise NoRide("a coach comes to a call no later than it left the one ahead")
-        left = leave
+        if not is_stop(pauses, stop):
+            raise NoRide("a call is at no stop")
 
 
 def check_rides(pauses, rides):
@@ -34,3 +35,10 @@ def check_rides(pauses, rides):
 def check_stop(pauses, stop):
     if not is_stop(pauses, stop):
         raise NoStop("there is no such stop")
+
+
+def check_ask(pauses, rides, start, goal):
+    # Rides are refused ahead of stops, whichever function is asked.
+    check_rides(pauses, rides)
+    check_stop(pauses, start)
+    check_stop(pauses, goal)

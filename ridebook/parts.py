@@ -1,6 +1,6 @@
 """When given parts come, where they are a trip."""
 
-from ridebook.checks import check_rides, check_stop
+from ridebook.checks import check_ask
 
 
 def is_part(rides, ride, on, off):
@@ -13,9 +13,7 @@ def can_leave(call, stop, ready):
 
 
 def coming_of(pauses, rides, start, goal, time, parts):
-    check_rides(pauses, rides)
-    check_stop(pauses, start)
-    check_stop(pauses, goal)
+    check_ask(pauses, rides, start, goal)
     stop = start
     come = time
     # Kept apart from `come`: the pause holds for changes, not for the first part or the last coming.

@@ -1,8 +1,6 @@
-import copy
 import itertools
 import unittest
 
-from ridebook.errors import NoRide, NoStop
 from ridebook.parts import coming_of
 from ridebook.rides import late_by, turned
 
@@ -272,101 +270,6 @@ class TestAgainstTheWords(unittest.TestCase):
             self.assertIsNone(coming_of(pauses, turned(rides), goal, start, 1 - coming, back))
             lengths.add(len(parts))
         self.assertEqual(lengths, {1, 2})
-
-
-class TestRefusals(unittest.TestCase):
-    WRONG = {
-        "no call": [],
-        "leaves earlier than it comes": [(0, 10, 9)],
-        "a later call leaves earlier than it comes": [(0, 1, 2), (1, 10, 9)],
-        "a middle call leaves earlier than it comes": [(0, 1, 2), (1, 10, 9), (0, 20, 20)],
-        "comes just when it left the call ahead": [(0, 1, 2), (1, 2, 3)],
-        "comes earlier than it left the call ahead": [(0, 1, 5), (1, 3, 9)],
-        "comes later than it came, but not than it left": [(0, 1, 5), (1, 4, 6), (0, 9, 9)],
-        "the last call is too early": [(0, 1, 1), (1, 3, 4), (0, 4, 5)],
-        "times below nought that fall": [(0, -5, -5), (1, -6, -6)],
-        "times below nought, leaves too early": [(0, -5, -6)],
-        "comes at nought where it left at nought": [(0, -1, 0), (1, 0, 1)],
-        "a stop below nought": [(-1, 1, 2)],
-        "a stop that is the number of stops": [(2, 1, 2)],
-        "a great stop": [(GREAT, 1, 2)],
-        "a great stop below nought": [(-GREAT, 1, 2)],
-        "a later call at no stop": [(0, 1, 2), (2, 3, 4)],
-        "a later call at a stop below nought": [(0, 1, 2), (-2, 3, 4)],
-    }
-    RIGHT = [(0, 1, 1), (1, 2, 2)]
-
-    def test_each_way_in_which_rides_are_refused(self):
-        for words, ride in self.WRONG.items():
-            for rides in ([ride], [ride, self.RIGHT], [self.RIGHT, ride]):
-                with self.subTest(words, rides=rides), self.assertRaises(NoRide):
-                    coming_of([0, 0], rides, 0, 0, 0, [])
-
-    def test_rides_are_refused_ahead_of_stops(self):
-        for words, ride in self.WRONG.items():
-            for start, goal in ((-1, 0), (0, -1), (2, 0), (0, 2), (-1, 2)):
-                with self.subTest(words, start=start, goal=goal), self.assertRaises(NoRide):
-                    coming_of([0, 0], [self.RIGHT, ride], start, goal, 0, [(9, 9, 9)])
-
-    def test_rides_are_refused_ahead_of_parts(self):
-        for words, ride in self.WRONG.items():
-            for parts in ([(0, 0, 1)], [(9, 9, 9)], [(1, 0, 0)]):
-                with self.subTest(words, parts=parts), self.assertRaises(NoRide):
-                    coming_of([0, 0], [self.RIGHT, ride], 0, 1, 0, parts)
-
-    def test_rides_at_the_edge_are_taken(self):
-        edges = [
-            [[(0, 5, 5)]],
-            [[(1, 5, 5)]],
-            [[(0, 5, 5), (1, 6, 6)]],
-            [[(0, -1, 0), (0, 1, 1)]],
-            [[(0, -5, -5), (1, -4, 0)]],
-            [[(0, 9, 9)], [(0, 1, 1)]],
-            [],
-        ]
-        for rides in edges:
-            with self.subTest(rides=rides):
-                self.assertEqual(coming_of([0, 0], rides, 1, 1, 3, []), 3)
-
-    def test_stops_that_are_none(self):
-        for stop in (-1, -2, -3, 2, 3, GREAT, -GREAT, 10 ** 5000):
-            for start, goal in ((stop, 0), (0, stop), (stop, stop)):
-                for parts in ([], [(0, 0, 1)], [(9, 9, 9)]):
-                    with self.assertRaises(NoStop):
-                        coming_of([0, 0], [self.RIGHT], start, goal, 0, parts)
-
-    def test_the_one_stop(self):
-        self.assertEqual(coming_of([3], [], 0, 0, 1, []), 1)
-        for start, goal in ((0, 1), (1, 0), (-1, 0), (0, -1)):
-            with self.subTest(start=start, goal=goal), self.assertRaises(NoStop):
-                coming_of([3], [], start, goal, 1, [])
-
-
-class TestNothingIsChanged(unittest.TestCase):
-    def test_what_is_handed_in_is_as_it_was(self):
-        for goal, parts in (
-            (3, [(0, 0, 1), (2, 0, 1)]),
-            (3, [(0, 0, 1), (1, 0, 1)]),
-            (0, []),
-            (0, [(0, 0, 2), (4, 0, 2)]),
-            (1, [(GREAT, -1, 0)]),
-            (9, [(0, 0, 1)]),
-        ):
-            with self.subTest(goal=goal, parts=parts):
-                pauses = list(PAUSES)
-                rides = copy.deepcopy(RIDES)
-                handed = list(parts)
-                try:
-                    coming_of(pauses, rides, 0, goal, 0, handed)
-                except NoStop:
-                    self.assertEqual(goal, 9)
-                self.assertEqual((pauses, rides, handed), (PAUSES, RIDES, parts))
-
-    def test_refused_rides_are_as_they_were(self):
-        rides = [[(0, 1, 1), (1, 1, 1)], []]
-        with self.assertRaises(NoRide):
-            coming_of([0, 0], rides, 0, 1, 0, [])
-        self.assertEqual(rides, [[(0, 1, 1), (1, 1, 1)], []])
 
 
 if __name__ == "__main__":
